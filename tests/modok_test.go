@@ -684,6 +684,15 @@ func withSpare(m impl.Mod) impl.Mod {
 	}
 }
 
+// wantSpare asks that nothing was written into what withSpare made of m, nor behind it.
+func wantSpare(t *testing.T, spare, m impl.Mod) {
+	t.Helper()
+	ends := []string{spare.Requests[:len(m.Requests)+1][len(m.Requests)], spare.Imps[:len(m.Imps)+1][len(m.Imps)].Spec, spare.Exps[:len(m.Exps)+1][len(m.Exps)].Spec, spare.Stmts[:len(m.Stmts)+1][len(m.Stmts)].Name, spare.Exprs[:len(m.Exprs)+1][len(m.Exprs)].Name}
+	if !isSameMod(spare, m) || slices.ContainsFunc(ends, func(s string) bool { return s != "spare" }) {
+		t.Errorf("an argument is written into: %+v", spare)
+	}
+}
+
 func TestProgramsAreNotWrittenInto(t *testing.T) {
 	for _, script := range inBoth {
 		for _, s := range someTexts(script) {
@@ -694,10 +703,7 @@ func TestProgramsAreNotWrittenInto(t *testing.T) {
 			spare := withSpare(m)
 			impl.ModOk(spare, script)
 			impl.ModOk(spare, !script)
-			ends := []string{spare.Requests[:len(m.Requests)+1][len(m.Requests)], spare.Imps[:len(m.Imps)+1][len(m.Imps)].Spec, spare.Exps[:len(m.Exps)+1][len(m.Exps)].Spec, spare.Stmts[:len(m.Stmts)+1][len(m.Stmts)].Name, spare.Exprs[:len(m.Exprs)+1][len(m.Exprs)].Name}
-			if !isSameMod(spare, m) || slices.ContainsFunc(ends, func(s string) bool { return s != "spare" }) {
-				t.Errorf("ModOk writes into its argument: %+v", spare)
-			}
+			wantSpare(t, spare, m)
 		}
 	}
 }
