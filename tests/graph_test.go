@@ -545,6 +545,30 @@ func TestGraphOkOfManyGraphs(t *testing.T) {
 	}
 }
 
+// graphWithSpare has lists with marked room behind them.
+func graphWithSpare(g impl.Graph) impl.Graph {
+	spare := impl.Graph{
+		Paths: append(slices.Clone(g.Paths), "spare")[:len(g.Paths)],
+		Mods:  append(slices.Clone(g.Mods), impl.Mod{Requests: []string{"spare"}})[:len(g.Mods)],
+		Links: append(slices.Clone(g.Links), link(1, "spare", 2))[:len(g.Links)],
+	}
+	for i, m := range g.Mods {
+		spare.Mods[i] = withSpare(m)
+	}
+	return spare
+}
+
+// wantGraphSpare asks that nothing was written into what graphWithSpare made of g, nor behind it.
+func wantGraphSpare(t *testing.T, spare, g impl.Graph) {
+	t.Helper()
+	if !isSameGraph(spare, g) || spare.Paths[:len(g.Paths)+1][len(g.Paths)] != "spare" || spare.Links[:len(g.Links)+1][len(g.Links)] != link(1, "spare", 2) || spare.Mods[:len(g.Mods)+1][len(g.Mods)].Requests[0] != "spare" {
+		t.Fatalf("an argument is written into: %+v", spare)
+	}
+	for i, m := range g.Mods {
+		wantSpare(t, spare.Mods[i], m)
+	}
+}
+
 func TestGraphsAreNotWrittenInto(t *testing.T) {
 	k, r := newMaker(false), rand.New(rand.NewSource(10))
 	for range 1000 {
@@ -553,14 +577,7 @@ func TestGraphsAreNotWrittenInto(t *testing.T) {
 		if k.Intn(2) == 0 {
 			meddleGraph(k, &g)
 		}
-		spare := impl.Graph{
-			Paths: append(slices.Clone(g.Paths), "spare")[:len(g.Paths)],
-			Mods:  append(slices.Clone(g.Mods), impl.Mod{Requests: []string{"spare"}})[:len(g.Mods)],
-			Links: append(slices.Clone(g.Links), link(1, "spare", 2))[:len(g.Links)],
-		}
-		for i, m := range g.Mods {
-			spare.Mods[i] = withSpare(m)
-		}
+		spare := graphWithSpare(g)
 		if impl.GraphOk(spare) != impl.GraphOk(spare) {
 			t.Fatalf("GraphOk of %+v is not the same twice", spare)
 		}
@@ -568,11 +585,6 @@ func TestGraphsAreNotWrittenInto(t *testing.T) {
 		if !slices.Equal(first, second) || len(first) > 0 && &first[0] == &second[0] {
 			t.Fatalf("Order of %+v is not the same twice, or shares memory", spare)
 		}
-		if !isSameGraph(spare, g) || spare.Paths[:len(g.Paths)+1][len(g.Paths)] != "spare" || spare.Links[:len(g.Links)+1][len(g.Links)] != link(1, "spare", 2) || spare.Mods[:len(g.Mods)+1][len(g.Mods)].Requests[0] != "spare" {
-			t.Fatalf("an argument is written into: %+v", spare)
-		}
-		for i, m := range g.Mods {
-			wantSpare(t, spare.Mods[i], m)
-		}
+		wantGraphSpare(t, spare, g)
 	}
 }
