@@ -253,7 +253,7 @@ func wantEachFuel(t *testing.T, what string, run func(fuel int) impl.Trace, c co
 	}
 }
 
-// wantGraphCourse asks for a course of Run, with each number of steps.
+// wantGraphCourse asks for a course of Run and of the bundle, with each number of steps.
 func wantGraphCourse(t *testing.T, g impl.Graph, text string) {
 	t.Helper()
 	c := courseOf(text)
@@ -261,6 +261,7 @@ func wantGraphCourse(t *testing.T, g impl.Graph, text string) {
 		t.Fatalf("the plain course of %s is %+v, not %+v", textOf(g), plain, c)
 	}
 	wantEachFuel(t, textOf(g), func(fuel int) impl.Trace { return impl.Run(g, fuel) }, c, math.MaxInt)
+	wantBundleCourse(t, g, c, math.MaxInt)
 }
 
 // scriptGraph is a script as a graph that only the plain rules take.

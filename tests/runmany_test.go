@@ -12,7 +12,7 @@ import (
 	"loop.example/g00777/impl"
 )
 
-// wantRunOf holds Run of a right graph against the plain rules and the promise, with each number of steps up to most; it counts the ends.
+// wantRunOf holds Run of a right graph, and its bundle, against the plain rules, with each number of steps up to most; it counts the ends.
 func wantRunOf(t *testing.T, g impl.Graph, most int, ends map[int]int) {
 	t.Helper()
 	if impl.LinkFault(g) != (impl.Fault{}) {
@@ -22,6 +22,7 @@ func wantRunOf(t *testing.T, g impl.Graph, most int, ends map[int]int) {
 	}
 	c := plainCourse(g, false)
 	wantEachFuel(t, textOf(g), func(fuel int) impl.Trace { return impl.Run(g, fuel) }, c, most)
+	wantBundleCourse(t, g, c, most)
 	ends[c.with(impl.MaxFuel).End]++
 }
 
@@ -295,13 +296,16 @@ func TestRunOfManyScripts(t *testing.T) {
 	wantEnds(t, ends, 50, -1, impl.TrDone, impl.TrThrow, impl.TrRef, impl.TrType)
 }
 
-// wantNoRun asks for the fixed answer of what is not right, with each number of steps.
+// wantNoRun asks for the fixed answer of what is not right, or does not link, with each number of steps, and that it has no bundle.
 func wantNoRun(t *testing.T, what string, g impl.Graph) {
 	t.Helper()
 	for _, fuel := range append(oddFuels(), 0, 1, 2, 10, 100) {
 		if got := impl.Run(g, fuel); !isSameTrace(got, impl.Trace{End: impl.TrRef}) {
 			t.Fatalf("%s: with %d steps Run tells %v", what, fuel, got)
 		}
+	}
+	if _, f := wantBundled(t, g); f.Kind != impl.FaLink {
+		t.Fatalf("%s: Bundle tells %v", what, f)
 	}
 }
 
