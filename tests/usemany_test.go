@@ -290,17 +290,23 @@ func wantSameNames(t *testing.T, g, trimmed impl.Graph) {
 	}
 }
 
-func TestNamesOfTexts(t *testing.T) {
+// wantOfTexts asks for what holds of the programs of many texts.
+func wantOfTexts(t *testing.T, wantHeld func(t *testing.T, m impl.Mod)) {
+	t.Helper()
 	for _, script := range inBoth {
 		for _, s := range someTexts(script) {
 			if m, bad := impl.Parse(s, script); bad == -1 {
-				wantNamesHeld(t, m)
+				wantHeld(t, m)
 			}
 		}
 	}
 	for _, s := range earlyTexts() {
-		wantNamesHeld(t, mustParse(t, s, false))
+		wantHeld(t, mustParse(t, s, false))
 	}
+}
+
+func TestNamesOfTexts(t *testing.T) {
+	wantOfTexts(t, wantNamesHeld)
 }
 
 // All programs of one import, one that uses a name and one that declares a name, out of few of each, in each order.
