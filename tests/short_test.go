@@ -324,13 +324,18 @@ func wantUnshortened(t *testing.T, what string, m impl.Mod) {
 	wantShortHeld(t, m)
 }
 
-func TestShortenOfModules(t *testing.T) {
-	for _, text := range []string{
+// moduleTexts are modules that are no scripts.
+func moduleTexts() []string {
+	return []string{
 		`import "x"; let one = 1;`, `import { one } from "x"; print(one);`, `import { a as one } from "x"; let two = one;`, `import one from "x"; function two() { return one(); }`, `import * as one from "x"; print(one.two); let three = one.three();`,
 		`export let one = 1;`, `export function one() { return one; }`, `export default 1; let one = 2;`, `let one = 1; export { one };`, `let one = 1; export { one as two };`, `let one = 1; export { two } from "x";`, `let one = 1; export * from "x";`,
 		// These names are words of a script.
 		`let undef = 1;`, `function fail() { return 1; }`, `let one = 1; undef = one;`, `let one = 1; print(fail + one);`, `let one = 1; fail = one;`,
-	} {
+	}
+}
+
+func TestShortenOfModules(t *testing.T) {
+	for _, text := range moduleTexts() {
 		wantUnshortened(t, text, mustParse(t, text, false))
 	}
 	wantUnshortened(t, "all that a module has", okModule(t))
@@ -343,11 +348,16 @@ func TestShortenOfModules(t *testing.T) {
 	}
 }
 
-func TestShortenWithEarlyErrors(t *testing.T) {
-	for text, code := range map[string]int{
+// earlyScripts have an early error each.
+func earlyScripts() map[string]int {
+	return map[string]int{
 		`let a = 1; let a = 2;`: impl.EaDup, `let one = 1; function one() { return 2; } print(one);`: impl.EaDup, `function f() { return 1; } let g = f(); function f() { return g; }`: impl.EaDup, `let one = 1; let two = 2; let three = 3; let one = two;`: impl.EaDup, `let $a = 1; let $b = 2; let $a = $b;`: impl.EaDup,
 		`let one = 1; print(one.two);`: impl.EaMember, `let one = 1; print(two.one() - one);`: impl.EaMember, `function one() { return one.one; }`: impl.EaMember, `print(a.b);`: impl.EaMember, `let one = 1; fail $a.default;`: impl.EaMember, `let one = 1; let one = one.one;`: impl.EaDup,
-	} {
+	}
+}
+
+func TestShortenWithEarlyErrors(t *testing.T) {
+	for text, code := range earlyScripts() {
 		m := mustParse(t, text, true)
 		if got := impl.Early(m, true); got != code {
 			t.Fatalf("Early of %q is %d", text, got)
@@ -357,10 +367,12 @@ func TestShortenWithEarlyErrors(t *testing.T) {
 	}
 }
 
-func TestShortenOfProgramsThatAreNotRight(t *testing.T) {
-	text := `let one = 1 + 2; function two() { return one * three; } one = two(); print(7); throw one;`
-	wantShortened(t, text, `let $a = 1 + 2; function $b() { return $a * three; } $a = $b(); print(7); throw $a;`)
-	for what, change := range map[string]func(m *impl.Mod){
+// changedText is a script that wrongChanges make wrong, one by one.
+const changedText = `let one = 1 + 2; function two() { return one * three; } one = two(); print(7); throw one;`
+
+// wrongChanges make a Mod that is no right script of that one.
+func wrongChanges() map[string]func(m *impl.Mod) {
+	return map[string]func(m *impl.Mod){
 		"a request":                func(m *impl.Mod) { m.Requests = []string{"x"} },
 		"an Imp":                   func(m *impl.Mod) { m.Imps = []impl.Imp{{Spec: "x", From: "three", Local: "three"}} },
 		"an Imp with its request":  func(m *impl.Mod) { m.Requests, m.Imps = []string{"x"}, []impl.Imp{{Spec: "x", From: "a", Local: "a"}} },
@@ -399,8 +411,25 @@ func TestShortenOfProgramsThatAreNotRight(t *testing.T) {
 		"far too many Stmts":       func(m *impl.Mod) { *m = manyStmts(1 << 12) },
 		"an Expr too many":         func(m *impl.Mod) { *m = manyExprs(impl.MaxExprs + 1) },
 		"one ( too many":           func(m *impl.Mod) { *m = deepMod(impl.ExSub, impl.MaxDepth+1) },
-	} {
-		m := mustParse(t, text, true)
+	}
+}
+
+// oddMods have nothing, or nothing that stands on anything.
+func oddMods() map[string]impl.Mod {
+	return map[string]impl.Mod{
+		"the zero Mod":        {},
+		"empty lists":         {Requests: []string{}, Imps: []impl.Imp{}, Exps: []impl.Exp{}, Stmts: []impl.Stmt{}, Exprs: []impl.Expr{}},
+		"a request alone":     {Requests: []string{"x"}},
+		"Imps and Exps alone": {Imps: []impl.Imp{{Local: "a"}}, Exps: []impl.Exp{{Kind: impl.EpStar}}},
+		"a Stmt alone":        {Stmts: []impl.Stmt{{Kind: impl.StLet, Name: "one"}}},
+		"an Expr alone":       {Exprs: []impl.Expr{{Kind: impl.ExName, Name: "one"}}},
+	}
+}
+
+func TestShortenOfProgramsThatAreNotRight(t *testing.T) {
+	wantShortened(t, changedText, `let $a = 1 + 2; function $b() { return $a * three; } $a = $b(); print(7); throw $a;`)
+	for what, change := range wrongChanges() {
+		m := mustParse(t, changedText, true)
 		change(&m)
 		if impl.ModOk(m, true) {
 			t.Fatalf("%s: %+v is right", what, m)
@@ -410,7 +439,7 @@ func TestShortenOfProgramsThatAreNotRight(t *testing.T) {
 	if !impl.ModOk(manyStmts(impl.MaxStmts), true) || !impl.ModOk(manyExprs(impl.MaxExprs-1), true) {
 		t.Error("what has too many of a thing is not what the test stands on")
 	}
-	for what, m := range map[string]impl.Mod{"the zero Mod": {}, "empty lists": {Requests: []string{}, Imps: []impl.Imp{}, Exps: []impl.Exp{}, Stmts: []impl.Stmt{}, Exprs: []impl.Expr{}}, "a request alone": {Requests: []string{"x"}}, "Imps and Exps alone": {Imps: []impl.Imp{{Local: "a"}}, Exps: []impl.Exp{{Kind: impl.EpStar}}}, "a Stmt alone": {Stmts: []impl.Stmt{{Kind: impl.StLet, Name: "one"}}}, "an Expr alone": {Exprs: []impl.Expr{{Kind: impl.ExName, Name: "one"}}}} {
+	for what, m := range oddMods() {
 		wantUnshortened(t, what, m)
 	}
 }
